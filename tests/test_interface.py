@@ -1,0 +1,62 @@
+"""The interface of the parts that have landed: names, arguments, and where they are defined."""
+
+import inspect
+import unittest
+from importlib import import_module
+
+from tests.helpers import ERRORS_OF_VALUE
+
+FUNCTIONS = {
+    "margins": {
+        "are_votes": ["game", "value"],
+        "are_weights": ["game", "value"],
+        "gains": ["game", "votes"],
+        "least_margin": ["game", "votes"],
+        "greatest_edge": ["game", "weights"],
+    },
+}
+
+# For each class what its objects are made of, and the methods that stand in it itself.
+CLASSES = {
+    "errors": {
+        **{name: (["value"], ["__init__"]) for name in ERRORS_OF_VALUE},
+        "Undefined": (["what"], ["__init__"]),
+        "NothingToUndo": (["word"], ["__init__"]),
+    },
+    "games": {"Game": (["rows"], ["__init__", "__eq__"])},
+}
+
+
+def module_of(name):
+    return import_module("votemargins." + name)
+
+
+class Interface(unittest.TestCase):
+    def test_functions(self):
+        for file, functions in FUNCTIONS.items():
+            for name, parameters in functions.items():
+                function = getattr(module_of(file), name)
+                self.assertTrue(inspect.isfunction(function), name)
+                self.assertEqual(function.__module__, "votemargins." + file)
+                self.assertEqual(list(inspect.signature(function).parameters), parameters, name)
+
+    def test_classes(self):
+        for file, classes in CLASSES.items():
+            for name, (parameters, methods) in classes.items():
+                told = getattr(module_of(file), name)
+                self.assertTrue(inspect.isclass(told), name)
+                self.assertEqual(told.__module__, "votemargins." + file)
+                self.assertEqual(list(inspect.signature(told).parameters), parameters, name)
+                for method in methods:
+                    self.assertIn(method, vars(told), name)
+
+    def test_nothing_has_a_default(self):
+        for file, functions in FUNCTIONS.items():
+            for name in functions:
+                for parameter in inspect.signature(getattr(module_of(file), name)).parameters.values():
+                    self.assertIs(parameter.default, inspect.Parameter.empty)
+                    self.assertIs(parameter.kind, inspect.Parameter.POSITIONAL_OR_KEYWORD)
+
+
+if __name__ == "__main__":
+    unittest.main()

@@ -1,0 +1,1 @@
+"""Votes of weak rules, with papers."""
