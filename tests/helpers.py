@@ -1,5 +1,6 @@
 """What several tests use."""
 
+from fractions import Fraction
 from itertools import product
 
 from votemargins import errors
@@ -73,18 +74,110 @@ def counts(length, most):
 
 def larger_games():
     """Some games of each size from 1 to 4 examples and rules, among them 4 by 4."""
-    found = []
+    signs = fixed_signs()
+    return [
+        game
+        for examples in range(1, 5)
+        for rules in range(1, 5)
+        for game in games_from(signs, examples, rules, 4)
+    ]
+
+
+def four_by_four_games(many):
+    """So many games of 4 examples and 4 rules."""
+    return games_from(fixed_signs(), 4, 4, many)
+
+
+def games_from(signs, examples, rules, many):
+    """So many games of this size, their signs taken one by one."""
+    return [
+        Game(tuple(tuple(next(signs) for _ in range(rules)) for _ in range(examples)))
+        for _ in range(many)
+    ]
+
+
+def fixed_signs():
+    """Signs without an end, so that each run sees the same games."""
     step = 0
-    for examples in range(1, 5):
-        for rules in range(1, 5):
-            for _ in range(4):
-                rows = []
-                for _ in range(examples):
-                    row = []
-                    for _ in range(rules):
-                        # A fixed row of steps, so that each run sees the same games.
-                        step = (step * 1103515245 + 12345) % 2 ** 31
-                        row.append(step // 65536 % 3 - 1)
-                    rows.append(tuple(row))
-                found.append(Game(tuple(rows)))
-    return found
+    while True:
+        step = (step * 1103515245 + 12345) % 2 ** 31
+        yield step // 65536 % 3 - 1
+
+
+def special_games():
+    """Games that tests should not miss: silent rules only, rows alike, columns alike, each sign of a worth."""
+    told = [
+        ((0,),), ((1,),), ((-1,),),
+        ((1, 0, -1, 0),), ((-1, -1, -1, -1),), ((0, 0, 0, 0),), ((-1, -1, 0, 0),),
+        ((1,), (0,), (-1,), (0,)), ((1,), (1,), (1,), (1,)), ((0,), (0,), (0,), (0,)),
+        ((0, 0), (0, 0)), ((0, 0, 0),) * 4, ((0,) * 4,) * 4, ((1,) * 4,) * 4, ((-1,) * 4,) * 4,
+        ((1, -1, 0, 1),) * 4, ((-1, 0, -1),) * 3, ((1, 1, -1), (1, 1, -1), (-1, -1, 1)),
+        ((1,) * 4, (-1,) * 4, (0,) * 4, (1,) * 4), ((1, 1, 0), (0, 0, 1), (-1, -1, 1)),
+        ((0, 1, -1), (-1, 0, 1), (1, -1, 0)), ((1, -1), (-1, 1)), ((1, 0), (0, 1)),
+        ((1, 0, 0, 0), (0, 1, 0, 0), (0, 0, 1, 0), (0, 0, 0, 1)),
+        ((-1, 0, 0, 0), (0, -1, 0, 0), (0, 0, -1, 0), (0, 0, 0, -1)),
+        ((1, 1, 1, 1), (1, -1, 1, -1), (1, 1, -1, -1), (1, -1, -1, 1)),
+        ((-1, 1, 1, 1), (1, -1, 1, 1), (1, 1, -1, 1), (1, 1, 1, -1)),
+        ((1, -1, -1, -1), (-1, 1, -1, -1), (-1, -1, 1, -1), (-1, -1, -1, 1)),
+        ((1, -1, 0, 0), (-1, 1, 0, 0), (0, 0, 1, -1), (0, 0, -1, 1)),
+        ((1, -1, 1, 0), (-1, 1, 1, 0), (0, 1, -1, 1), (1, 1, 0, -1)),
+    ]
+    return [Game(rows) for rows in told]
+
+
+def margins_of(game, votes):
+    """The margins, worked out by fractions."""
+    return [
+        sum(Fraction(game.rows[k][i] * votes[i], sum(votes)) for i in range(game.rules))
+        for k in range(game.examples)
+    ]
+
+
+def edges_of(game, weights):
+    """The edges, worked out by fractions."""
+    return [
+        sum(Fraction(game.rows[k][i] * weights[k], sum(weights)) for k in range(game.examples))
+        for i in range(game.rules)
+    ]
+
+
+def pair_of(fraction):
+    return (fraction.numerator, fraction.denominator)
+
+
+def worth_by_steps(rows):
+    """The worth, a fraction, by the simplex method with Bland's rule: not the package's way."""
+    many, rules = len(rows), len(rows[0])
+    # Signs put up by 2 are above 0, and the worth is put up by 2 with them.
+    table = [
+        [Fraction(row[rule] + 2) for row in rows] + [Fraction(rule == k) for k in range(rules)] + [Fraction(1)]
+        for rule in range(rules)
+    ]
+    goal = [Fraction(1)] * many + [Fraction(0)] * (rules + 1)
+    basis = list(range(many, many + rules))
+    while max(goal[:-1]) > 0:
+        at = [number > 0 for number in goal[:-1]].index(True)
+        _, _, k = min((row[-1] / row[at], basis[k], k) for k, row in enumerate(table) if row[at] > 0)
+        basis[k] = at
+        table[k] = pivot = [number / table[k][at] for number in table[k]]
+        for other, row in enumerate(table):
+            if other != k:
+                table[other] = [number - row[at] * told for number, told in zip(row, pivot)]
+        goal = [number - goal[at] * told for number, told in zip(goal, pivot)]
+    return 1 / -goal[-1] - 2
+
+
+def not_ratios():
+    """Values that are no ratio of integers from -999999 to 999999."""
+    return [
+        (1, 0), (0, 0), (-1, 0), (2, 4), (0, 2), (0, 999999), (3, 3), (-2, 4), (-3, 3), (999999, 999999),
+        (1, -2), (-1, -2), (0, -1), (1, -1), (-1, -1), (999999, 3), (999998, 2), (2, 999998),
+        (1,), (1, 2, 3), (0, 1, 1), (), [1, 2], [0, 1], [], ((1, 2),), ((1, 2), 3), (1, (2,)), ((1,), 2),
+        (True, 2), (1, True), (False, 1), (True, True), (0, True), (None, 1), (1, None), (None, None),
+        ("1", 2), (1, "2"), ("1", "2"), "12", "1/2", "", None, True, False, 0, 1, -1, 999999999999,
+        (1000000, 1), (1, 1000000), (-1000000, 1), (-1, 1000000), (1000000, 1000000), (1000000, 999999),
+        (999999, 1000000), (999999999999, 1), (1, 999999999999), (-999999999999, 1), (1, -999999),
+        ([1], 2), (1, [2]), (Game(((1,),)), 1), (1, Game(((1,),))), Game(((1,),)),
+        errors.InvalidRatio((1, 2)), errors.Undefined("votes"), ((1, 2), (1, 2)),
+        (1,) * 30000, [1] * 30000, "x" * 4000, nested(list, 60), nested(tuple, 60), (nested(tuple, 59), 1),
+    ]

@@ -14,6 +14,21 @@ FUNCTIONS = {
         "least_margin": ["game", "votes"],
         "greatest_edge": ["game", "weights"],
     },
+    "worths": {
+        "worth": ["game"],
+        "best_votes": ["game"],
+        "hard_weights": ["game"],
+    },
+    "bounds": {
+        "votes_for": ["game", "ratio"],
+        "weights_against": ["game", "ratio"],
+        "votes_hold": ["game", "ratio", "value"],
+        "weights_hold": ["game", "ratio", "value"],
+    },
+    "choices": {
+        "without": ["game", "r"],
+        "with_few": ["game", "k"],
+    },
 }
 
 # For each class what its objects are made of, and the methods that stand in it itself.

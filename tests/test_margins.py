@@ -1,9 +1,8 @@
 """Point [6] and promise (1): votes and weights."""
 
 import unittest
-from fractions import Fraction
 
-from tests.helpers import OwnTuple, counts, larger_games, never_right, small_games
+from tests.helpers import OwnTuple, counts, edges_of, larger_games, margins_of, never_right, pair_of, small_games
 from votemargins.errors import InvalidVotes, InvalidWeights, Undefined
 from votemargins.games import Game
 from votemargins.margins import are_votes, are_weights, gains, greatest_edge, least_margin
@@ -12,26 +11,6 @@ THREE_BY_TWO = Game(((1, -1), (0, 1), (1, 1)))
 TWO_BY_THREE = Game(((1, 0, -1), (-1, 1, 0)))
 FOUR_BY_FOUR = Game(((1, -1, 0, 1), (-1, 1, 1, 0), (0, 1, -1, 1), (1, 0, 1, -1)))
 ONE_BY_ONE = Game(((1,),))
-
-
-def margins_of(game, votes):
-    """The margins, worked out by fractions."""
-    return [
-        sum(Fraction(game.rows[k][i] * votes[i], sum(votes)) for i in range(game.rules))
-        for k in range(game.examples)
-    ]
-
-
-def edges_of(game, weights):
-    """The edges, worked out by fractions."""
-    return [
-        sum(Fraction(game.rows[k][i] * weights[k], sum(weights)) for k in range(game.examples))
-        for i in range(game.rules)
-    ]
-
-
-def pair_of(fraction):
-    return (fraction.numerator, fraction.denominator)
 
 
 def some_counts(length):

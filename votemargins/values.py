@@ -2,6 +2,8 @@
 
 from math import gcd
 
+FARTHEST = 999999
+
 
 def is_integer(value):
     """Tell whether value is an integer; a bool is none here."""
@@ -17,3 +19,18 @@ def ratio_of(top, bottom):
     """The ratio of two integers, brought down; bottom is more than 0."""
     common = gcd(top, bottom)
     return (top // common, bottom // common)
+
+
+def is_ratio(value):
+    """Tell whether value, which may be anything, is a ratio of integers from -FARTHEST to FARTHEST."""
+    if not isinstance(value, tuple) or len(value) != 2:
+        return False
+    top, bottom = value
+    if not is_between(top, -FARTHEST, FARTHEST) or not is_between(bottom, 1, FARTHEST):
+        return False
+    return gcd(top, bottom) == 1
+
+
+def is_less(one, other):
+    """Tell whether a ratio is less than another one, as numbers."""
+    return one[0] * other[1] < other[0] * one[1]
