@@ -1,7 +1,9 @@
 """What several tests use."""
 
 from fractions import Fraction
+from functools import cache
 from itertools import product
+from operator import mul
 
 from votemargins import errors
 from votemargins.games import Game
@@ -123,6 +125,42 @@ def special_games():
         ((1, -1, 1, 0), (-1, 1, 1, 0), (0, 1, -1, 1), (1, 1, 0, -1)),
     ]
     return [Game(rows) for rows in told]
+
+
+def wrong_numbers():
+    """Values that are no number of examples, rules or votes for any game."""
+    return [
+        -1, -2, -999999999999, 999999999999, True, False, None, "", "0", "1", (), (0,), (1,), [], [0], [1],
+        Game(((1,),)), errors.InvalidRows(()), (1,) * 30000, nested(list, 60), nested(tuple, 60),
+    ]
+
+
+# For each the least sum of votes that are right on all examples; 27 is the greatest of all games.
+PATIENT = (
+    (((-1, -1, 0, 1), (-1, 1, 1, -1), (1, 0, 1, -1), (1, 1, -1, 0)), 27),
+    (((-1, 0, 1, 1), (0, 1, -1, -1), (1, -1, 0, 1), (1, -1, 1, -1)), 27),
+    (((-1, 0, 0, 1), (0, -1, 1, -1), (1, -1, -1, 1), (1, 1, 0, -1)), 25),
+    (((-1, 0, 0, 1), (0, 0, 1, -1), (1, -1, 0, 1), (1, 1, -1, -1)), 23),
+)
+
+# A game with worth 0, without which no example has it: its bars need many sums.
+CIRCLE = Game(((1, -1, 0, 0), (0, 1, -1, 0), (0, 0, 1, -1), (-1, 0, 0, 1)))
+
+
+@cache
+def votes_of_sum(rules, many):
+    """All votes of this sum, the first ones first."""
+    if rules == 1:
+        return [(many,)]
+    return [(k,) + rest for k in range(many + 1) for rest in votes_of_sum(rules - 1, many - k)]
+
+
+def first_by_all(game, many):
+    """The first votes of this sum that are right on all examples, by going over all; None if there are none."""
+    for votes in votes_of_sum(game.rules, many):
+        if all(sum(map(mul, row, votes)) > 0 for row in game.rows):
+            return votes
+    return None
 
 
 def margins_of(game, votes):

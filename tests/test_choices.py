@@ -4,10 +4,11 @@ import unittest
 from itertools import combinations
 
 from tests.helpers import (
-    counts, four_by_four_games, larger_games, margins_of, nested, pair_of, small_games, special_games, worth_by_steps,
+    counts, four_by_four_games, larger_games, margins_of, pair_of, small_games, special_games, worth_by_steps,
+    wrong_numbers,
 )
 from votemargins.choices import with_few, without
-from votemargins.errors import InvalidNumber, InvalidRows
+from votemargins.errors import InvalidNumber
 from votemargins.games import Game
 from votemargins.worths import worth
 
@@ -160,14 +161,6 @@ class Both(unittest.TestCase):
             before = dict(vars(game))
             self.assertEqual(function(game, number), function(Game(game.rows), number))
             self.assertEqual(vars(game), before)
-
-
-def wrong_numbers():
-    """Values that are no number of examples or rules for any game."""
-    return [
-        -1, -2, -999999999999, 999999999999, True, False, None, "", "0", "1", (), (0,), (1,), [], [0], [1],
-        Game(((1,),)), InvalidRows(()), (1,) * 30000, nested(list, 60), nested(tuple, 60),
-    ]
 
 
 if __name__ == "__main__":

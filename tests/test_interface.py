@@ -29,6 +29,22 @@ FUNCTIONS = {
         "without": ["game", "r"],
         "with_few": ["game", "k"],
     },
+    "few": {
+        "fewest": ["game"],
+        "few_votes": ["game"],
+        "votes_of": ["game", "many"],
+    },
+    "walls": {
+        "walls": ["game", "many"],
+        "walls_hold": ["game", "many", "value"],
+        "bars": ["game", "many"],
+        "bars_hold": ["game", "many", "value"],
+    },
+    "boosting": {
+        "weights_after": ["game", "rules"],
+        "potential": ["game", "rules"],
+        "boosted": ["game", "many"],
+    },
 }
 
 # For each class what its objects are made of, and the methods that stand in it itself.
