@@ -163,6 +163,73 @@ def first_by_all(game, many):
     return None
 
 
+def is_tuple_of_integers(value):
+    return isinstance(value, tuple) and all(isinstance(n, int) and not isinstance(n, bool) for n in value)
+
+
+def at_least(one, other):
+    return all(a >= b for a, b in zip(one, other))
+
+
+def by_the_words(game, many, value, low):
+    """Whether value is walls (low is many) or bars (low is 1), as the document tells it, one word behind the other."""
+    if not isinstance(value, tuple) or len(value) != many + 1:
+        return False
+    for layer in value:
+        if not isinstance(layer, tuple) or not all(is_tuple_of_integers(sums) for sums in layer):
+            return False
+        if any(len(sums) != game.examples for sums in layer):
+            return False
+        if any(not layer[k] < layer[k + 1] for k in range(len(layer) - 1)):
+            return False
+    if not any(all(number >= 0 for number in sums) for sums in value[0]):
+        return False
+    for t in range(many):
+        for sums in value[t]:
+            for column in zip(*game.rows):
+                wanted = [number + sign for number, sign in zip(sums, column)]
+                if not any(at_least(other, wanted) for other in value[t + 1]):
+                    return False
+    return all(any(number < 1 for number in sums) for t in range(low, many + 1) for sums in value[t])
+
+
+def put(value, path, member):
+    """The value with this member at the place that the path leads to."""
+    if not path:
+        return member
+    at = path[0]
+    return value[:at] + (put(value[at], path[1:], member),) + value[at + 1:]
+
+
+def altered(value):
+    """The value, a tuple of tuples, words and integers, changed at each of its places in many ways."""
+    for path, member in places(value):
+        for wrong in others_than(member):
+            yield put(value, path, wrong)
+
+
+def places(value):
+    """Each place in the value, as the path that leads to it, and what stands there."""
+    yield (), value
+    if isinstance(value, tuple):
+        for at, member in enumerate(value):
+            for path, inner in places(member):
+                yield (at,) + path, inner
+
+
+def others_than(member):
+    """What may stand in the place of a member."""
+    told = [None, True, False, 0, 1, -1, 2, 999999, 999999999999, "", "worth", (), [], (0, 1), (member,), [member]]
+    if isinstance(member, tuple):
+        told += [list(member), member[:-1], member[1:], member[::-1], member + member, member + (0,), member + (1,),
+                 (0,) + member, OwnTuple(member)]
+    elif isinstance(member, str):
+        told += [member + " ", member.upper(), member[:-1], "silent", "lying", "margin", "no votes"]
+    else:
+        told += [member + 1, member - 1, -member, str(member)]
+    return told
+
+
 def margins_of(game, votes):
     """The margins, worked out by fractions."""
     return [
@@ -181,6 +248,13 @@ def edges_of(game, weights):
 
 def pair_of(fraction):
     return (fraction.numerator, fraction.denominator)
+
+
+def around(ratio):
+    """The ratio, and one closely below and one closely above it."""
+    told = Fraction(*ratio)
+    close = Fraction(1, 999998 // told.denominator * told.denominator)
+    return pair_of(told - close), ratio, pair_of(told + close)
 
 
 def worth_by_steps(rows):

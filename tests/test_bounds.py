@@ -4,7 +4,7 @@ import unittest
 from fractions import Fraction
 
 from tests.helpers import (
-    OwnTuple, counts, edges_of, four_by_four_games, larger_games, margins_of, never_right, not_ratios, pair_of,
+    OwnTuple, around, counts, edges_of, four_by_four_games, larger_games, margins_of, never_right, not_ratios,
     small_games, special_games,
 )
 from votemargins.bounds import votes_for, votes_hold, weights_against, weights_hold
@@ -22,13 +22,6 @@ FAR = [
     (999999, 999998), (-999999, 999998), (0, 1), (1, 1), (-1, 1),
 ]
 NEAR = [(1, 2), (-1, 2), (1, 3), (-1, 3), (2, 3), (-2, 3), (1, 4), (2, 5), (-3, 7), (5, 4), (2, 1), (-2, 1)]
-
-
-def around(ratio):
-    """The ratio, and one closely below and one closely above it."""
-    told = Fraction(*ratio)
-    close = Fraction(1, 999998 // told.denominator * told.denominator)
-    return pair_of(told - close), ratio, pair_of(told + close)
 
 
 class Checks(unittest.TestCase):

@@ -1,4 +1,4 @@
-"""The interface of the parts that have landed: names, arguments, and where they are defined."""
+"""The interface: names, arguments, and where they are defined."""
 
 import inspect
 import unittest
@@ -45,6 +45,23 @@ FUNCTIONS = {
         "potential": ["game", "rules"],
         "boosted": ["game", "many"],
     },
+    "faults": {
+        "withstands": ["game", "votes", "example", "kind"],
+        "breakers": ["game", "votes", "example", "kind"],
+    },
+    "claims": {
+        "is_question": ["game", "value"],
+        "is_claim": ["game", "value"],
+        "answer_of": ["game", "question"],
+        "question_of": ["game", "claim"],
+    },
+    "papers": {
+        "paper_of": ["game", "question"],
+        "claim_holds": ["game", "claim", "paper"],
+    },
+    "desk": {
+        "same_state": ["one", "other"],
+    },
 }
 
 # For each class what its objects are made of, and the methods that stand in it itself.
@@ -55,6 +72,22 @@ CLASSES = {
         "NothingToUndo": (["word"], ["__init__"]),
     },
     "games": {"Game": (["rows"], ["__init__", "__eq__"])},
+    "desk": {"Desk": (["game"], ["__init__"])},
+}
+
+METHODS = {
+    "show": ["row"],
+    "hide": ["example"],
+    "hire": ["column"],
+    "dismiss": ["rule"],
+    "turn": ["example", "rule", "sign"],
+    "watch": ["question"],
+    "leave": ["question"],
+    "undo": [],
+    "redo": [],
+    "claim": ["question"],
+    "paper": ["question"],
+    "report": [],
 }
 
 
@@ -80,6 +113,13 @@ class Interface(unittest.TestCase):
                 self.assertEqual(list(inspect.signature(told).parameters), parameters, name)
                 for method in methods:
                     self.assertIn(method, vars(told), name)
+
+    def test_methods_of_the_desk(self):
+        desk = module_of("desk").Desk
+        for name, parameters in METHODS.items():
+            method = vars(desk)[name]
+            self.assertTrue(inspect.isfunction(method), name)
+            self.assertEqual(list(inspect.signature(method).parameters), ["self"] + parameters, name)
 
     def test_nothing_has_a_default(self):
         for file, functions in FUNCTIONS.items():

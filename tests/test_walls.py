@@ -4,8 +4,8 @@ import unittest
 from itertools import product
 
 from tests.helpers import (
-    CIRCLE, PATIENT, OwnTuple, first_by_all, four_by_four_games, larger_games, nested, never_right, small_games,
-    special_games, wrong_numbers,
+    CIRCLE, PATIENT, OwnTuple, at_least, by_the_words, first_by_all, four_by_four_games, larger_games, nested,
+    never_right, put, small_games, special_games, wrong_numbers,
 )
 from votemargins.errors import InvalidNumber, Undefined
 from votemargins.games import Game
@@ -18,36 +18,6 @@ ONE = Game(((1,),))
 SILENT = Game(((0,),))
 WRONG = Game(((-1,),))
 SILENT_FOUR = Game(((0,) * 4,) * 4)
-
-
-def is_tuple_of_integers(value):
-    return isinstance(value, tuple) and all(isinstance(n, int) and not isinstance(n, bool) for n in value)
-
-
-def at_least(one, other):
-    return all(a >= b for a, b in zip(one, other))
-
-
-def by_the_words(game, many, value, low):
-    """Whether value is walls (low is many) or bars (low is 1), as the document tells it, one word behind the other."""
-    if not isinstance(value, tuple) or len(value) != many + 1:
-        return False
-    for layer in value:
-        if not isinstance(layer, tuple) or not all(is_tuple_of_integers(sums) for sums in layer):
-            return False
-        if any(len(sums) != game.examples for sums in layer):
-            return False
-        if any(not layer[k] < layer[k + 1] for k in range(len(layer) - 1)):
-            return False
-    if not any(all(number >= 0 for number in sums) for sums in value[0]):
-        return False
-    for t in range(many):
-        for sums in value[t]:
-            for column in zip(*game.rows):
-                wanted = [number + sign for number, sign in zip(sums, column)]
-                if not any(at_least(other, wanted) for other in value[t + 1]):
-                    return False
-    return all(any(number < 1 for number in sums) for t in range(low, many + 1) for sums in value[t])
 
 
 def all_reached(game, many):
@@ -67,14 +37,6 @@ def highest_alone(layers):
         tuple(sums for sums in layer if not any(other != sums and at_least(other, sums) for other in layer))
         for layer in layers
     )
-
-
-def put(value, path, member):
-    """The value with this member at the place that the path leads to."""
-    if not path:
-        return member
-    at = path[0]
-    return value[:at] + (put(value[at], path[1:], member),) + value[at + 1:]
 
 
 def changed_at_one_place(value):

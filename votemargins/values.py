@@ -1,4 +1,4 @@
-"""Integers and ratios: point [1]."""
+"""Integers, ratios, and what is within a value: points [1] and [2]."""
 
 from math import gcd
 
@@ -34,3 +34,17 @@ def is_ratio(value):
 def is_less(one, other):
     """Tell whether a ratio is less than another one, as numbers."""
     return one[0] * other[1] < other[0] * one[1]
+
+
+def plain(value):
+    """The value, each tuple in it as one of no class of its own."""
+    if isinstance(value, tuple):
+        return tuple([plain(member) for member in value])
+    return value
+
+
+def has_bool(value):
+    """Tell whether a value of tuples has a bool in it."""
+    if isinstance(value, tuple):
+        return any([has_bool(member) for member in value])
+    return isinstance(value, bool)

@@ -45,7 +45,8 @@ def needs_more(game, many):
 
 def easiest(game, fails):
     """The first game that fails too, of those with some examples made easy, as many of them as can be."""
-    # What bars the votes that are right on few examples bars those that are right on all, with fewer sums.
+    # What is seen of the game with easy examples is seen of the game itself, and it takes fewer sums.
+    # The loop always returns: in the end no example is easy, and the game itself fails.
     for many in range(game.examples - 1, -1, -1):
         for easy in combinations(range(game.examples), many):
             other = with_easy(game, easy)
